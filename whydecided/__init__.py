@@ -1,0 +1,1 @@
+"""Why a table of rules decided as it did: see whydecided.reasons.answers."""
