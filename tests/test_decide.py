@@ -63,7 +63,7 @@ class Decide(unittest.TestCase):
         self.assertEqual(rows[2:], [[-22], [-22], [1, 1, 0], [0], [1, 1, 0], [0]])
 
 
-class DecideEveryCase(unittest.TestCase):
+class DecideManyCases(unittest.TestCase):
     # Paints the rules over one another from the last to the first: another way than looking for the first that holds.
     def painted(self, tops, rules):
         picture = {}
