@@ -26,6 +26,22 @@ def decide(*case):
     return [4, len(case), *case]
 
 
+def forces(inputs, *case):
+    return [5, inputs, len(case), *case]
+
+
+def reasons(*case):
+    return [6, len(case), *case]
+
+
+def contrasts(*case):
+    return [7, len(case), *case]
+
+
+def way(t, *case):
+    return [8, t, len(case), *case]
+
+
 def joined(calls):
     return [number for call in calls for number in call]
 

@@ -1,8 +1,8 @@
-import itertools
 import random
 import unittest
 
 from calls import TOP, asked, begin, decide, drop, first_difference, last, move, rule
+from everycase import painted, random_bounds
 
 
 class Decide(unittest.TestCase):
@@ -64,30 +64,16 @@ class Decide(unittest.TestCase):
 
 
 class DecideManyCases(unittest.TestCase):
-    # Paints the rules over one another from the last to the first: another way than looking for the first that holds.
-    def painted(self, tops, rules):
-        picture = {}
-        for k in reversed(range(len(rules))):
-            outcome, bounds = rules[k]
-            for case in itertools.product(*[range(low, high + 1) for low, high in bounds]):
-                picture[case] = [1, outcome, k]
-        cases = itertools.product(*[range(top + 1) for top in tops])
-        return {case: picture.get(case, [0]) for case in cases}
-
-    def random_rule(self, source, tops):
-        bounds = [tuple(sorted([source.randint(0, top), source.randint(0, top)])) for top in tops]
-        return (source.randint(0, 255), bounds)
-
     def check_table(self, source):
         tops = [source.randint(0, 4) for k in range(source.randint(1, 4))]
-        rules = [self.random_rule(source, tops) for k in range(source.randint(0, 10))]
+        rules = [(source.randint(0, 255), random_bounds(source, tops)) for k in range(source.randint(0, 10))]
         start = [begin(*tops)] + [rule(outcome, *bounds) for outcome, bounds in rules]
         if rules:
             k, to, gone = [source.randrange(len(rules)) for which in range(3)]
             start += [move(k, to), drop(gone)]
             rules.insert(to, rules.pop(k))
             del rules[gone]
-        picture = self.painted(tops, rules)
+        picture = painted(tops, rules)
         cases = source.sample(sorted(picture), min(len(picture), 280))
         rows = asked(*start, *[decide(*case) for case in cases])
         self.assertIsNone(first_difference(rows[len(start):], [picture[case] for case in cases]))

@@ -1,4 +1,4 @@
-"""Holds the package's files against those rules of LANGUAGE.md that can be seen in the text of one file."""
+"""Holds the package's files against those rules of LANGUAGE.md that can be seen in their text."""
 
 import ast
 import builtins
@@ -54,6 +54,19 @@ def trees():
 
 def nodes():
     return [(path, node) for path, tree in trees() for node in ast.walk(tree)]
+
+
+def with_parents():
+    """Each node with the one it stands in."""
+    return [(path, child, node) for path, node in nodes() for child in ast.iter_child_nodes(node)]
+
+
+def called_name(node):
+    return node.func.id if isinstance(node, ast.Call) and isinstance(node.func, ast.Name) else ""
+
+
+def is_first_within(node, parent, names):
+    return called_name(parent) in names and parent.args[:1] == [node]
 
 
 def is_docstring(statement):
@@ -189,6 +202,75 @@ class Code(unittest.TestCase):
                     if isinstance(sign, (ast.Is, ast.IsNot)):
                         self.assertIn(getattr(right, "value", 0), [None, True, False], (path, node.lineno))
                         self.assertIsInstance(right, ast.Constant, (path, node.lineno))
+
+    def test_walked_at_once(self):
+        kept_apart = ["zip", "enumerate", "reversed", "range"]
+        takers = ["list", "tuple", "dict", "sorted", "sum", "any", "all", "enumerate", "zip"]
+        for path, node, parent in with_parents():
+            method = node.func.attr if isinstance(node, ast.Call) and isinstance(node.func, ast.Attribute) else ""
+            if called_name(node) in kept_apart or method in ["items", "keys", "values"]:
+                walked = isinstance(parent, (ast.For, ast.comprehension)) and parent.iter is node
+                alone = called_name(parent) in ["min", "max"] and parent.args == [node]
+                self.assertTrue(walked or alone or is_first_within(node, parent, takers), (path, node.lineno))
+
+    def test_sets_are_not_kept(self):
+        for path, node, parent in with_parents():
+            if called_name(node) in ["set", "frozenset"]:
+                asked = isinstance(parent, ast.Compare) and isinstance(parent.ops[0], (ast.In, ast.NotIn))
+                measured = is_first_within(node, parent, ["sorted", "len"]) and parent.keywords == []
+                self.assertTrue(asked or measured, (path, node.lineno))
+
+    def test_names_of_python_are_called_and_not_kept(self):
+        for path, node, parent in with_parents():
+            if isinstance(node, ast.Name) and node.id in BUILT_IN:
+                called = isinstance(parent, ast.Call) and parent.func is node
+                named = isinstance(parent, (ast.ClassDef, ast.ExceptHandler))
+                self.assertTrue(called or named, (path, node.lineno, node.id))
+
+    def test_keywords(self):
+        fit = {"sorted": ["key", "reverse"], "min": ["key", "default"], "max": ["key", "default"], "sum": ["start"],
+               "enumerate": ["start"], "zip": ["strict"]}
+        for path, node in nodes():
+            if isinstance(node, ast.Call):
+                for keyword in node.keywords:
+                    self.assertIn(keyword.arg, fit.get(called_name(node), []), (path, node.lineno))
+
+    def test_powers_and_texts(self):
+        for path, node in nodes():
+            if isinstance(node, ast.BinOp) and isinstance(node.op, ast.Pow):
+                self.assertIn(getattr(node.right, "value", None), range(65), (path, node.lineno))
+            if isinstance(node, ast.Constant) and isinstance(node.value, str):
+                self.assertNotIn("%", node.value, (path, node.lineno))
+
+    def test_what_is_walked_is_not_changed(self):
+        changes = ["append", "clear", "extend", "insert", "pop", "remove", "reverse", "setdefault", "update"]
+        for path, loop in nodes():
+            if isinstance(loop, ast.For):
+                walked = {ast.unparse(part) for part in ast.walk(loop.iter)}
+                for node in ast.walk(loop):
+                    if isinstance(node, ast.Call) and getattr(node.func, "attr", "") in changes:
+                        self.assertNotIn(ast.unparse(node.func.value), walked, (path, node.lineno))
+                    if isinstance(node, ast.Subscript) and isinstance(node.ctx, ast.Store):
+                        self.assertNotIn(ast.unparse(node.value), walked, (path, node.lineno))
+
+    def test_locals_are_not_called_like_a_class_or_an_import(self):
+        for path, tree in trees():
+            taken = {node.name for node in tree.body if isinstance(node, ast.ClassDef)}
+            taken |= {name.name for node in tree.body if isinstance(node, ast.ImportFrom) for name in node.names}
+            for definition in ast.walk(tree):
+                if isinstance(definition, ast.FunctionDef):
+                    names = [name for node in ast.walk(definition) for name in bound_names(node)]
+                    self.assertEqual(set(names) & taken, set(), path)
+
+    def test_no_two_files_draw_from_one_another(self):
+        drawn = {}
+        for path, tree in trees():
+            modules = [node.module.split(".")[-1] for node in tree.body if isinstance(node, ast.ImportFrom)]
+            drawn[path.stem] = modules
+        while drawn:
+            free = [name for name, modules in drawn.items() if not any(module in drawn for module in modules)]
+            self.assertNotEqual(free, [], drawn)
+            drawn = {name: modules for name, modules in drawn.items() if name not in free}
 
 
 if __name__ == "__main__":
